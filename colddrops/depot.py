@@ -4,10 +4,12 @@ Each call answers a list: its number, then what else it tells. A refusal is its
 number alone, and is given before anything is changed.
 """
 
-from colddrops.refusals import CANNOT_BE, NONE_SUCH, NOT_NOW, OUT_OF_RANGE, SO_ALREADY, TOO_MANY
+from colddrops.book import Book, DoneDrop
+from colddrops.refusals import CANNOT_BE, NONE_SUCH, NOTHING, NOT_NOW, OUT_OF_RANGE, SO_ALREADY, TOO_MANY
 from colddrops.roads import MOST_STOPS, WORKS, Roads, Stop, place_of
 from colddrops.trips import (
-    all_trips, cold_drops, cold_trips, coldest, frost_needed, mildest, minutes_home, quickest, trip_along)
+    all_trips, cold_drops, cold_trips, coldest, frost_at_drop, frost_needed, mildest, minutes_home, quickest,
+    trip_along)
 
 MOST_WAY_LOSS = 20
 MOST_DOOR_LOSS = 100
@@ -37,6 +39,7 @@ class Depot:
         self.place = WORKS
         self.frost = 0
         self.undelivered = []
+        self.book = Book()
 
     def begin(self, way_loss, door_loss, room):
         if not within(way_loss, 1, MOST_WAY_LOSS):
@@ -95,6 +98,7 @@ class Depot:
             return [TOO_MANY]
         self.undelivered = list(row)
         self.frost = frost
+        self.book.add_load()
         return [litres]
 
     def pass_minutes(self, minutes, loss):
@@ -110,10 +114,11 @@ class Depot:
             return [NONE_SUCH]
         stop = self.roads.stops[number]
         self.go_to(place_of(number))
-        answer = [self.frost, self.minute, max(0, stop.wanted - self.frost)]
+        drop = DoneDrop(number, stop.litres, self.minute, self.frost, max(0, stop.wanted - self.frost))
+        self.book.add_drop(drop)
         self.pass_minutes(stop.door_minutes, self.roads.door_loss)
         self.undelivered.remove(number)
-        return answer
+        return [drop.frost, drop.minute, drop.too_warm]
 
     def go_back(self):
         if self.place == WORKS:
@@ -159,3 +164,64 @@ class Depot:
             return [refusal]
         trip = coldest(self.roads, all_trips(self.roads, WORKS, row), frost)
         return [cold_drops(trip, frost), minutes_home(self.roads, trip)] + trip.row
+
+    def tell_drops(self, frost, row):
+        refusal = self.frost_and_row_refusal(frost, row)
+        if refusal != 0:
+            return [refusal]
+        trip = trip_along(self.roads, WORKS, row)
+        told = [cold_drops(trip, frost)]
+        for drop in trip.drops:
+            told.extend([drop.minutes, frost_at_drop(drop, frost)])
+        return told
+
+    def trips_left(self):
+        return all_trips(self.roads, self.place, self.undelivered)
+
+    def tell_now(self):
+        if len(self.undelivered) == 0:
+            return [NOTHING]
+        trips = cold_trips(self.trips_left(), self.frost)
+        if len(trips) == 0:
+            return [CANNOT_BE]
+        trip = quickest(self.roads, trips)
+        return [minutes_home(self.roads, trip)] + trip.row
+
+    def tell_left(self):
+        return [len(self.undelivered)] + self.undelivered
+
+    def tell_slack(self):
+        if len(self.undelivered) == 0:
+            return [NOTHING]
+        # The row that needs least bears the longest wait, whenever it is home.
+        spare = self.frost - frost_needed(mildest(self.roads, self.trips_left()))
+        if spare < 0:
+            return [CANNOT_BE]
+        return [spare // self.roads.way_loss]
+
+    def tell_mins(self, start, goal):
+        if not self.roads.has_place(start) or not self.roads.has_place(goal):
+            return [NONE_SUCH]
+        return [self.roads.minutes_between(start, goal)]
+
+    def look_at(self, number):
+        if not self.roads.has_stop(number):
+            return [NONE_SUCH]
+        stop = self.roads.stops[number]
+        return [stop.door_minutes, stop.wanted, stop.litres]
+
+    def tell_done(self):
+        told = [len(self.book.done_drops)]
+        for drop in self.book.done_drops:
+            told.extend([drop.number, drop.minute, drop.frost, drop.too_warm])
+        return told
+
+    def tell_warm(self):
+        tenths = self.book.tenths_too_warm()
+        return [len(tenths), sum(tenths), max(tenths, default=0)]
+
+    def tell_sums(self):
+        return [0, self.book.loads, len(self.book.done_drops), self.book.litres_dropped(), self.minute]
+
+    def tell_state(self):
+        return [self.minute, len(self.roads.stops), self.place, len(self.undelivered), self.frost]

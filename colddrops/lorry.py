@@ -97,6 +97,46 @@ def answer_most(depot, numbers, row):
     return depot.tell_most(numbers[0], row)
 
 
+def answer_drops(depot, numbers, row):
+    return depot.tell_drops(numbers[0], row)
+
+
+def answer_now(depot, numbers, row):
+    return depot.tell_now()
+
+
+def answer_left(depot, numbers, row):
+    return depot.tell_left()
+
+
+def answer_slack(depot, numbers, row):
+    return depot.tell_slack()
+
+
+def answer_mins(depot, numbers, row):
+    return depot.tell_mins(numbers[0], numbers[1])
+
+
+def answer_look(depot, numbers, row):
+    return depot.look_at(numbers[0])
+
+
+def answer_done(depot, numbers, row):
+    return depot.tell_done()
+
+
+def answer_warm(depot, numbers, row):
+    return depot.tell_warm()
+
+
+def answer_sums(depot, numbers, row):
+    return depot.tell_sums()
+
+
+def answer_state(depot, numbers, row):
+    return depot.tell_state()
+
+
 # By the call's number, in the order of SHAPES.
 ANSWERERS = (
     answer_begin,
@@ -110,15 +150,22 @@ ANSWERERS = (
     answer_mild,
     answer_quick,
     answer_most,
+    answer_drops,
+    answer_now,
+    answer_left,
+    answer_slack,
+    answer_mins,
+    answer_look,
+    answer_done,
+    answer_warm,
+    answer_sums,
+    answer_state,
 )
 
 
 def answer_call(depot, call):
     if call.number != BEGIN and not depot.begun:
         return [NOT_BEGUN]
-    if call.number >= len(ANSWERERS):
-        # Better no answer than a made-up one for a call that is not written yet.
-        raise NotImplementedError(SHAPES[call.number][0])
     return ANSWERERS[call.number](depot, call.numbers, call.row)
 
 

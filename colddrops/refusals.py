@@ -1,6 +1,7 @@
 """The numbers that stand for a refused call."""
 
 NONE_SUCH = -2
+NOTHING = -6
 NOT_BEGUN = -11
 NOT_NOW = -16
 SO_ALREADY = -17

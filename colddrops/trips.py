@@ -3,16 +3,25 @@
 from colddrops.roads import WORKS, place_of
 
 
+class Drop:
+    """One drop of a trip: when it begins, what is lost till then, and which frost at first is just enough for it."""
+
+    def __init__(self, minutes, lost, wanted):
+        self.minutes = minutes
+        self.lost = lost
+        # A stop wants at least a tenth, so frost that is held at 0 never hides a warm drop here.
+        self.needed = lost + wanted
+
+
 class Trip:
     """Stops driven to one right behind the other, up to the last one's shut door."""
 
-    def __init__(self, row, place, minutes, lost, needs):
+    def __init__(self, row, place, minutes, lost, drops):
         self.row = row
         self.place = place
         self.minutes = minutes
         self.lost = lost
-        # For each drop, the least frost at first with which that drop is cold enough.
-        self.needs = needs
+        self.drops = drops
 
 
 def trip_from(place):
@@ -24,11 +33,10 @@ def trip_with(roads, trip, number):
     stop = roads.stops[number]
     place = place_of(number)
     way = roads.minutes_between(trip.place, place)
-    lost_at_drop = trip.lost + way * roads.way_loss
-    # A stop wants at least a tenth, so frost that is held at 0 never hides a warm drop here.
-    needs = trip.needs + [lost_at_drop + stop.wanted]
-    lost = lost_at_drop + stop.door_minutes * roads.door_loss
-    return Trip(trip.row + [number], place, trip.minutes + way + stop.door_minutes, lost, needs)
+    drop = Drop(trip.minutes + way, trip.lost + way * roads.way_loss, stop.wanted)
+    minutes = drop.minutes + stop.door_minutes
+    lost = drop.lost + stop.door_minutes * roads.door_loss
+    return Trip(trip.row + [number], place, minutes, lost, trip.drops + [drop])
 
 
 def trip_along(roads, place, row):
@@ -56,7 +64,12 @@ def all_trips(roads, place, row):
 
 
 def frost_needed(trip):
-    return max(trip.needs, default=0)
+    return max([drop.needed for drop in trip.drops], default=0)
+
+
+def frost_at_drop(drop, frost):
+    """What is left, at this drop, of so much frost at first."""
+    return max(0, frost - drop.lost)
 
 
 def minutes_home(roads, trip):
@@ -64,7 +77,7 @@ def minutes_home(roads, trip):
 
 
 def cold_drops(trip, frost):
-    return len([need for need in trip.needs if need <= frost])
+    return len([drop for drop in trip.drops if drop.needed <= frost])
 
 
 def mildest(roads, trips):

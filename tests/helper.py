@@ -1,5 +1,6 @@
 """Calls as they stand in the list, their answers taken apart, and a slow model to hold them against."""
 
+from copy import copy
 from itertools import permutations
 
 from colddrops.lorry import answers
@@ -51,8 +52,44 @@ def most(f, row):
     return [10, f, len(row)] + list(row)
 
 
-# One call of each of the others, by their shapes in the interface.
-LATER_CALLS = ([11, 100, 2, 0, 1], [12], [13], [14], [15, 0, 1], [16, 0], [17], [18], [19], [20])
+def drops(f, row):
+    return [11, f, len(row)] + list(row)
+
+
+def now():
+    return [12]
+
+
+def left():
+    return [13]
+
+
+def slack():
+    return [14]
+
+
+def mins(x, y):
+    return [15, x, y]
+
+
+def look(s):
+    return [16, s]
+
+
+def done():
+    return [17]
+
+
+def warm():
+    return [18]
+
+
+def sums():
+    return [19]
+
+
+def state():
+    return [20]
 
 
 def ask(calls):
@@ -71,9 +108,12 @@ def last(calls):
     return ask(calls)[-1]
 
 
-# Calls that show all of an object that these calls can show; the questions first, as the rest changes it.
+# Calls that show all of an object; the questions first, as the rest changes it.
 PROBE = (
-    [need([s]) for s in range(7)]
+    [state(), left(), done(), warm(), sums(), now(), slack()]
+    + [mins(x, y) for x in range(8) for y in range(8)]
+    + [look(s) for s in range(7)]
+    + [need([s]) for s in range(7)]
     + [wait(1)]
     + [drive(s) for s in range(7)]
     + [back(), load(600, range(4)), load(600, range(5))]
@@ -82,7 +122,7 @@ PROBE = (
     + [call for s in range(7) for call in (load(600, [s]), drive(s), back())]
     + [way(x, y, 0) for x in range(8) for y in range(8)]
     + [stop()] * 8
-    + [load(600, range(6))]
+    + [load(600, range(6)), state(), done(), sums()]
 )
 
 
@@ -105,14 +145,17 @@ class Model:
             return self.begin(*call[1:])
         if not self.begun:
             return [-11]
-        if call[0] in (3, 9, 10):
+        plain = {1: self.stop, 2: self.way, 4: self.drive, 5: self.back, 6: self.wait, 12: self.now, 13: self.left,
+                 14: self.slack, 15: self.mins, 16: self.look, 17: self.done, 18: self.warm, 19: self.sums,
+                 20: self.state}
+        if call[0] in plain:
+            return plain[call[0]](*call[1:])
+        frost_first = {3: self.load, 9: self.quick, 10: self.most, 11: self.drops}
+        if call[0] in frost_first:
             assert call[2] == len(call[3:])
-            return {3: self.load, 9: self.quick, 10: self.most}[call[0]](call[1], call[3:])
-        if call[0] in (7, 8):
-            assert call[1] == len(call[2:])
-            return {7: self.need, 8: self.mild}[call[0]](call[2:])
-        plain = {1: self.stop, 2: self.way, 4: self.drive, 5: self.back, 6: self.wait}
-        return plain[call[0]](*call[1:])
+            return frost_first[call[0]](call[1], call[3:])
+        assert call[1] == len(call[2:])
+        return {7: self.need, 8: self.mild}[call[0]](call[2:])
 
     def begin(self, r, o, l):
         if r not in range(1, 21) or o not in range(r, 101) or l not in range(1, 100001):
@@ -120,6 +163,7 @@ class Model:
         self.begun, self.r, self.o, self.room = True, r, o, l
         self.stops, self.ways = [], {}
         self.minute, self.place, self.frost, self.to_do = 0, 0, 0, []
+        self.loads, self.log = 0, []
         return [0]
 
     def stop(self, h, w, l):
@@ -162,6 +206,7 @@ class Model:
         if litres > self.room:
             return [-28]
         self.frost, self.to_do = f, list(row)
+        self.loads += 1
         return [litres]
 
     def drive(self, s):
@@ -170,8 +215,9 @@ class Model:
         self.minutes(self.ways[self.place, s + 1], self.r)
         self.place = s + 1
         told = [self.frost, self.minute, max(self.stops[s][1] - self.frost, 0)]
+        self.log.append((s, told[1], told[0], told[2]))
         self.minutes(self.stops[s][0], self.o)
-        self.to_do.remove(s)
+        self.to_do = [other for other in self.to_do if other != s]
         return told
 
     def back(self):
@@ -189,9 +235,9 @@ class Model:
         self.minutes(n, self.r)
         return [self.minute, self.frost]
 
-    def measured(self, row):
-        """What each drop needs at first, and the minutes till home."""
-        place, minute, frost, needs = 0, 0, 0, []
+    def measured(self, row, place=0):
+        """What each drop needs at first, and the minutes till home; nothing to do at the works takes none."""
+        minute, frost, needs = 0, 0, []
         for s in row:
             frost -= self.r * self.ways[place, s + 1]
             needs.append(self.stops[s][1] - frost)
@@ -200,11 +246,11 @@ class Model:
             place = s + 1
         return needs, minute + (self.ways[place, 0] if place else 0)
 
-    def all_rows(self, row):
+    def all_rows(self, row, place=0):
         """Of each row of these stops: need, home, what each drop needs, its stops' places in the asked row."""
         found = []
         for spots in permutations(range(len(row))):
-            needs, home = self.measured([row[spot] for spot in spots])
+            needs, home = self.measured([row[spot] for spot in spots], place)
             found.append((max(needs + [0]), home, needs, spots))
         return found
 
@@ -238,3 +284,59 @@ class Model:
             return [-22]
         warm, home, spots = min((sum(n > f for n in t[2]), t[1], t[3]) for t in self.all_rows(row))
         return [len(row) - warm, home] + [row[spot] for spot in spots]
+
+    def drops(self, f, row):
+        """Driven with a lorry of its own, which may carry any litres."""
+        if self.row_fault(row):
+            return self.row_fault(row)
+        if f > 600:
+            return [-22]
+        other = copy(self)
+        other.minute, other.place, other.frost, other.to_do, other.log = 0, 0, f, list(row), []
+        driven = [other.drive(s) for s in row]
+        return [sum(drop[2] == 0 for drop in driven)] + [n for drop in driven for n in (drop[1], drop[0])]
+
+    def now(self):
+        if not self.to_do:
+            return [-6]
+        good = [(t[1], t[0], t[3]) for t in self.all_rows(self.to_do, self.place) if t[0] <= self.frost]
+        if not good:
+            return [-33]
+        home, _, spots = min(good)
+        return [home] + [self.to_do[spot] for spot in spots]
+
+    def left(self):
+        return [len(self.to_do)] + self.to_do
+
+    def slack(self):
+        """Waited minute by minute with a lorry of its own, till it can't be any more."""
+        if self.now()[0] < 0:
+            return self.now()
+        rows = self.all_rows(self.to_do, self.place)
+        other = copy(self)
+        waited = 0
+        while any(t[0] <= other.frost for t in rows):
+            other.minutes(1, self.r)
+            waited += 1
+        return [waited - 1]
+
+    def mins(self, x, y):
+        if x not in range(len(self.stops) + 1) or y not in range(len(self.stops) + 1):
+            return [-2]
+        return [0 if x == y else self.ways[x, y]]
+
+    def look(self, s):
+        return list(self.stops[s]) if s in range(len(self.stops)) else [-2]
+
+    def done(self):
+        return [len(self.log)] + [n for entry in self.log for n in entry]
+
+    def warm(self):
+        tenths = [entry[3] for entry in self.log]
+        return [sum(n > 0 for n in tenths), sum(tenths), max(tenths + [0])]
+
+    def sums(self):
+        return [0, self.loads, len(self.log), sum(self.stops[entry[0]][2] for entry in self.log), self.minute]
+
+    def state(self):
+        return [self.minute, len(self.stops), self.place, len(self.to_do), self.frost]

@@ -13,7 +13,7 @@ EXPRESSIONS = (ast.Constant, ast.List, ast.Tuple, ast.Dict, ast.BinOp, ast.Unary
                ast.Call, ast.Attribute, ast.Subscript, ast.Slice, ast.ListComp, ast.JoinedStr, ast.FormattedValue,
                ast.Name, ast.Lambda)
 BUILT_INS = ("len", "range", "enumerate", "zip", "min", "max", "sum", "abs", "sorted", "reversed", "int", "str", "bool",
-             "list", "tuple", "dict", "set", "isinstance", "any", "all", "divmod", "NotImplementedError")
+             "list", "tuple", "dict", "set", "isinstance", "any", "all", "divmod")
 OWN_METHODS = ("append", "clear", "copy", "count", "extend", "get", "index", "insert", "items", "keys", "pop", "remove",
                "reverse", "setdefault", "update", "values")
 WORDS = ("type|typing|typing_extensions|enum|Enum|IntEnum|StrEnum|Flag|IntFlag|Generic|Protocol|ABC|ABCMeta|namedtuple"

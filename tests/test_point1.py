@@ -3,7 +3,8 @@
 import unittest
 
 from tests.helper import (
-    LARGEST, LATER_CALLS, ask, back, begin, check_refused, drive, last, load, mild, most, need, quick, stop, wait, way)
+    LARGEST, ask, back, begin, check_refused, done, drive, drops, last, left, load, look, mild, mins, most, need, now,
+    quick, slack, state, stop, sums, wait, warm, way)
 
 # Room for just the litres of the four, so that a changed room shows.
 FOUR = [begin(2, 3, 1000), stop(5, 50, 100), stop(6, 60, 200), stop(7, 70, 300), stop(8, 80, 400)]
@@ -23,13 +24,14 @@ class Begin(unittest.TestCase):
 
     def test_all_others_before_it(self):
         others = [stop(), way(0, 0, 0), load(1, [0]), drive(0), back(), wait(1), need([]), mild([]), quick(1, []),
-                  most(1, [])] + list(LATER_CALLS)
+                  most(1, []), drops(1, []), now(), left(), slack(), mins(0, 0), look(0), done(), warm(), sums(),
+                  state()]
         self.assertEqual(ask(others), [[-11]] * 20)
         self.assertEqual(ask([begin(0)] + others), [[-22]] + [[-11]] * 20)
 
     def test_not_begun_ahead_of_all_else(self):
         wrong = [stop(0, 0, 0), way(9, 9, 999), load(999, [0] * 10), drive(9), wait(0), need([8, 8]), mild([9]),
-                 quick(999, [0] * 7), most(999, [9])]
+                 quick(999, [0] * 7), most(999, [9]), drops(999, [9, 9]), mins(9, 0), look(9)]
         self.assertEqual(ask(wrong), [[-11]] * len(wrong))
 
     def test_a_refused_begin_is_no_begin(self):
@@ -38,12 +40,27 @@ class Begin(unittest.TestCase):
     def test_at_first(self):
         self.assertEqual(ask([begin(), back(), wait(1), need([]), drive(0), need([0])]),
                          [[0], [-17], [1, 0], [0, 0], [-2], [-2]])
+        self.assertEqual(ask([begin(), state(), left(), done(), warm(), sums(), now(), slack(), mins(0, 0), look(0)]),
+                         [[0], [0, 0, 0, 0, 0], [0], [0], [0, 0, 0], [0, 0, 0, 0, 0], [-6], [-6], [0], [-2]])
 
     def test_again_there_is_nothing(self):
         line = FOUR + [way(0, 1, 9), load(300, [0, 1]), drive(1), begin(1, 2, 99)]
         after = [back(), drive(0), wait(5), need([0]), stop(1, 10, 100), way(0, 1, 8), load(50, [0])]
         self.assertEqual(ask(line + after)[len(line) - 1:],
                          [[0], [-17], [-2], [5, 0], [-2], [0], [30], [-28]])
+
+    def test_again_all_that_is_told_is_new(self):
+        questions = [state(), left(), done(), warm(), sums(), now(), slack(), mins(0, 1), look(0), drops(9, []),
+                     drops(9, [0])]
+        used = FOUR + [load(100, [1, 0]), drive(1), drive(0), back(), load(600, [3, 2]), drive(3), way(0, 1, 9)]
+        told = ask(used + questions + [begin(0)] + questions + [begin(1, 2, 99)] + questions)
+        told = told[len(used):]
+        self.assertEqual(told[:11], [
+            [139, 4, 4, 1, 516], [1, 2], [3, 1, 30, 40, 20, 0, 66, 0, 50, 3, 131, 540, 0], [2, 70, 50],
+            [0, 2, 3, 700, 139], [67, 2], [193], [9], [5, 50, 100], [0], [0, 9, 0]])
+        self.assertEqual(told[11:23], [[-22]] + told[:11])
+        self.assertEqual(told[23:], [[0], [0, 0, 0, 0, 0], [0], [0], [0, 0, 0], [0, 0, 0, 0, 0], [-6], [-6], [-2],
+                                     [-2], [0], [-2]])
 
     def test_again_with_other_losses(self):
         line = FOUR + [begin(3, 5, 99), stop(4, 10, 9), stop(4, 10, 9), need([0]), need([0, 1])]
@@ -107,12 +124,12 @@ class Ways(unittest.TestCase):
 
 class Rows(unittest.TestCase):
     def asked(self, row):
-        return (need(row), mild(row), quick(600, row), most(600, row), load(600, row))
+        return (need(row), mild(row), quick(600, row), most(600, row), drops(600, row), load(600, row))
 
     def test_six_are_taken(self):
         line = [begin(1, 1)] + [stop(1, 1, 1)] * 7
         for call in self.asked([6, 5, 4, 3, 2, 1]):
-            self.assertGreater(last(line + [call])[0], 0)
+            self.assertGreater(last(line + [call])[0], 0, call)
 
     def test_too_many(self):
         line = [begin(1, 1)] + [stop(1, 1, 1)] * 7
@@ -136,7 +153,7 @@ class Rows(unittest.TestCase):
                 check_refused(self, FOUR, call, -22)
 
     def test_no_such_stop_ahead_of_the_frost(self):
-        for call in (quick(601, [4]), most(601, [4]), load(601, [4])):
+        for call in (quick(601, [4]), most(601, [4]), drops(601, [4]), load(601, [4])):
             check_refused(self, FOUR, call, -2)
 
 

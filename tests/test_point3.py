@@ -1,8 +1,9 @@
-"""Point 3: need, mild, quick, most."""
+"""Point 3: need, mild, quick, most, drops."""
 
 import unittest
 
-from tests.helper import LARGEST, ask, begin, check_refused, drive, last, load, mild, most, need, quick, stop, way
+from tests.helper import (
+    LARGEST, ask, back, begin, check_refused, drive, drops, last, load, mild, most, need, quick, stop, wait, way)
 
 # Ways of 30 all over: stop 0 wants most frost, so it is best driven to first.
 THREE = [begin(1, 2), stop(10, 200, 1), stop(20, 100, 1), stop(5, 150, 1)]
@@ -164,12 +165,90 @@ class Most(unittest.TestCase):
                 check_refused(self, THREE, most(frost, row), -22)
 
 
+class Drops(unittest.TestCase):
+    def test_minutes_and_frost_of_each(self):
+        # Lost till the drops: 30; 30 + 20 + 30; 30 + 20 + 30 + 10 + 30.
+        self.assertEqual(last(THREE + [drops(300, [0, 2, 1])]), [3, 30, 270, 70, 220, 105, 180])
+        self.assertEqual(last(THREE + [drops(300, [1, 2, 0])]), [2, 30, 270, 80, 200, 115, 160])
+
+    def test_just_the_frost_that_is_wanted_and_a_tenth_less(self):
+        self.assertEqual(last(THREE + [drops(230, [0, 2, 1])]), [3, 30, 200, 70, 150, 105, 110])
+        self.assertEqual(last(THREE + [drops(229, [0, 2, 1])]), [1, 30, 199, 70, 149, 105, 109])
+        self.assertEqual(last(THREE + [drops(220, [0, 2, 1])]), [1, 30, 190, 70, 140, 105, 100])
+        self.assertEqual(last(THREE + [drops(219, [0, 2, 1])]), [0, 30, 189, 70, 139, 105, 99])
+
+    def test_the_row_is_taken_as_it_is_asked(self):
+        self.assertEqual(last(THREE + [drops(230, [1, 2, 0])]), [1, 30, 200, 80, 130, 115, 90])
+
+    def test_a_row_of_one(self):
+        self.assertEqual(last(THREE + [drops(180, [2])]), [1, 30, 150])
+        self.assertEqual(last(THREE + [drops(179, [2])]), [0, 30, 149])
+
+    def test_the_empty_row(self):
+        for frost in (0, 1, 600):
+            self.assertEqual(last(THREE + [drops(frost, [])]), [0])
+        self.assertEqual(last([begin(), drops(0, [])]), [0])
+
+    def test_never_less_than_none(self):
+        self.assertEqual(last(THREE + [drops(81, [0, 2, 1])]), [0, 30, 51, 70, 1, 105, 0])
+        self.assertEqual(last(THREE + [drops(80, [0, 2, 1])]), [0, 30, 50, 70, 0, 105, 0])
+        self.assertEqual(last(THREE + [drops(79, [0, 2, 1])]), [0, 30, 49, 70, 0, 105, 0])
+        self.assertEqual(last(THREE + [drops(0, [1, 2])]), [0, 30, 0, 80, 0])
+
+    def test_a_stop_that_wants_but_a_tenth(self):
+        line = [begin(1, 1), stop(1, 1, 1)]
+        self.assertEqual(last(line + [drops(31, [0])]), [1, 30, 1])
+        self.assertEqual(last(line + [drops(30, [0])]), [0, 30, 0])
+        self.assertEqual(last(line + [drops(29, [0])]), [0, 30, 0])
+
+    def test_warm_at_once(self):
+        line = [begin(1, 1), stop(1, 1, 1), way(0, 1, 0)]
+        self.assertEqual(last(line + [drops(0, [0])]), [0, 0, 0])
+        self.assertEqual(last(line + [drops(1, [0])]), [1, 0, 1])
+
+    def test_what_is_lost_at_the_last_door_does_not_count(self):
+        self.assertEqual(last([begin(1, 100), stop(120, 1, 1), drops(31, [0])]), [1, 30, 1])
+
+    def test_ways_that_are_not_alike(self):
+        line = THREE + [way(1, 3, 90), way(3, 1, 0)]
+        self.assertEqual(last(line + [drops(600, [0, 2])]), [2, 30, 570, 130, 460])
+        self.assertEqual(last(line + [drops(600, [2, 0])]), [2, 30, 570, 35, 560])
+
+    def test_a_stop_driven_to_first_that_lies_far(self):
+        self.assertEqual(last(FAR + [drops(255, [1, 0])]), [2, 100, 155, 196, 50])
+        self.assertEqual(last(FAR + [drops(255, [0, 1])]), [1, 5, 250, 110, 55])
+
+    def test_a_later_drop_may_be_cold_enough_when_the_first_is_not(self):
+        line = [begin(1, 1), stop(1, 600, 1), stop(1, 1, 1)]
+        self.assertEqual(last(line + [drops(100, [0, 1])]), [1, 30, 70, 61, 39])
+
+    def test_six(self):
+        self.assertEqual(last(ALIKE + [drops(280, [5, 3, 1, 0, 2, 4])]),
+                         [6, 30, 250, 65, 210, 100, 170, 135, 130, 170, 90, 205, 50])
+        self.assertEqual(last(ALIKE + [drops(279, [5, 3, 1, 0, 2, 4])])[0], 5)
+
+    def test_no_room_is_no_matter(self):
+        line = [begin(1, 1, 1), stop(1, 1, 9), stop(1, 1, 9)]
+        self.assertEqual(last(line + [drops(600, [0, 1])]), [2, 30, 570, 61, 539])
+
+    def test_frost_above_600(self):
+        for frost in (601, LARGEST):
+            for row in ([], [0], [0, 1]):
+                check_refused(self, THREE, drops(frost, row), -22)
+        self.assertEqual(last(THREE + [drops(600, [0])]), [1, 30, 570])
+
+    def test_from_the_works_wherever_the_lorry_is(self):
+        line = THREE + [load(100, [1, 2]), drive(2), wait(9)]
+        for row in ([2, 1], [0], []):
+            self.assertEqual(last(line + [drops(300, row)]), last(THREE + [drops(300, row)]))
+
+
 class Asked(unittest.TestCase):
     def test_a_question_changes_nothing(self):
         before = THREE + [load(300, [1, 2]), drive(2)]
-        after = [drive(1), [5]]
+        after = [drive(1), back()]
         plain = ask(before + after)[-2:]
-        for call in (need([0, 1]), mild([0, 1, 2]), quick(600, [1, 2]), most(50, [2, 0])):
+        for call in (need([0, 1]), mild([0, 1, 2]), quick(600, [1, 2]), most(50, [2, 0]), drops(50, [2, 0])):
             self.assertEqual(ask(before + [call] + after)[-2:], plain)
 
 
